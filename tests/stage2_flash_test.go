@@ -559,20 +559,29 @@ func TestP11TheLastWipeMayFall(t *testing.T) {
 	mustFlash(t, "FlashWipe behind the last one, that fell", got, ok, fell, false)
 }
 
+// withTornPages is the blocks with each written page torn, alone and with all ahead of it.
+func withTornPages(f []impl.Block) [][]impl.Block {
+	var torn [][]impl.Block
+	all := copyFlash(f)
+	for b := range f {
+		for i, p := range f[b].Pages {
+			if p.State != 1 {
+				continue
+			}
+			one := copyFlash(f)
+			one[b].Pages[i] = impl.Page{State: impl.PageTorn}
+			all[b].Pages[i] = impl.Page{State: impl.PageTorn}
+			torn = append(torn, one, copyFlash(all))
+		}
+	}
+	return torn
+}
+
 func TestP12AnyWrittenPageMayBeTorn(t *testing.T) {
 	for _, f := range okFlashes() {
-		all := copyFlash(f)
-		for b := range f {
-			for i, p := range f[b].Pages {
-				if p.State != 1 {
-					continue
-				}
-				one := copyFlash(f)
-				one[b].Pages[i] = impl.Page{State: impl.PageTorn}
-				all[b].Pages[i] = impl.Page{State: impl.PageTorn}
-				if !impl.FlashOk(one) || !impl.FlashOk(all) {
-					t.Fatalf("not ok: %v or %v", one, all)
-				}
+		for _, torn := range withTornPages(f) {
+			if !impl.FlashOk(torn) {
+				t.Fatalf("not ok: %v", torn)
 			}
 		}
 	}
@@ -702,13 +711,17 @@ func TestP16AWornBlockCanBeWritten(t *testing.T) {
 	}
 }
 
-func TestALongRunOfWritesAndWipes(t *testing.T) {
-	f, want := impl.FlashNew(), impl.FlashNew()
-	seed := uint32(1)
-	next := func(n int) int {
+// steadyNumbers is numbers that look thrown, each less than what it is asked with, and are the same in each run.
+func steadyNumbers(seed uint32) func(n int) int {
+	return func(n int) int {
 		seed = seed*1664525 + 1013904223
 		return int(seed>>16) % n
 	}
+}
+
+func TestALongRunOfWritesAndWipes(t *testing.T) {
+	f, want := impl.FlashNew(), impl.FlashNew()
+	next := steadyNumbers(1)
 	for i := 0; i < 20000; i++ {
 		var ok, wantOk bool
 		b, torn := next(4), next(4) == 0
